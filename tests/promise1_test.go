@@ -1,0 +1,100 @@
+package tests
+
+import (
+	"fmt"
+	"math"
+	"slices"
+	"strings"
+	"sync"
+	"testing"
+
+	"loop.example/g00535/impl"
+)
+
+// Promise 1. A call tells its answers as a text, so that calls of all kinds can be asked in any order and held against
+// each other. What is handed in so far are texts, numbers, arrays and structs of these: values that no call can change.
+type call func() string
+
+func told(name string, answers ...any) string { return name + fmt.Sprintln(answers...) }
+
+func callsOfCodes() []call {
+	var all []call
+	for _, text := range []string{"", "a", "ok", "closed", "_9", "9", "\xff", strings.Repeat("n", impl.MaxName),
+		strings.Repeat("n", impl.MaxName+1), strings.Repeat("a", impl.MaxText+1)} {
+		all = append(all,
+			func() string { return told("NameOK", impl.NameOK(text)) },
+			func() string { return told("CodeOf", impl.CodeOf(text)) })
+	}
+	for _, n := range []int{math.MinInt, -1, 0, 19, 20, math.MaxInt} {
+		all = append(all, func() string { return told("CodeWord", impl.CodeWord(n)) })
+	}
+	return all
+}
+
+func callsOfVvs(a, b vv) []call {
+	return []call{
+		func() string { return told("VvOK", impl.VvOK(a)) },
+		func() string { v, code := impl.VvMax(a, b); return told("VvMax", v, code) },
+		func() string { v, code := impl.VvMin(a, b); return told("VvMin", v, code) },
+		func() string { k, code := impl.VvOrder(a, b); return told("VvOrder", k, code) },
+	}
+}
+
+func callsOfVvAndDot(v vv, d dot) []call {
+	return []call{
+		func() string { has, code := impl.VvHas(v, d); return told("VvHas", has, code) },
+		func() string { more, code := impl.VvAdd(v, d); return told("VvAdd", more, code) },
+	}
+}
+
+func callsOfDots(a, b dot) []call {
+	return []call{
+		func() string { return told("DotOK", impl.DotOK(a)) },
+		func() string { k, code := impl.OrderDots(a, b); return told("OrderDots", k, code) },
+	}
+}
+
+// Right and wrong arguments, each with each.
+func someCalls() []call {
+	all := callsOfCodes()
+	vs := append(wrongVvs(), vv{}, vv{3, 0, 7}, vv{1, 2, 7}, vv{impl.MaxDot, impl.MaxDot, impl.MaxDot})
+	ds := append(slices.Clone(wrongDots), dot{Node: 0, N: 1}, dot{Node: 1, N: 5}, dot{Node: 2, N: impl.MaxDot})
+	for _, v := range vs {
+		for _, u := range vs {
+			all = append(all, callsOfVvs(v, u)...)
+		}
+		for _, d := range ds {
+			all = append(all, callsOfVvAndDot(v, d)...)
+		}
+	}
+	for _, d := range ds {
+		for _, e := range ds {
+			all = append(all, callsOfDots(d, e)...)
+		}
+	}
+	return all
+}
+
+func TestAlikeArgumentsHaveAlikeAnswers(t *testing.T) {
+	calls := someCalls()
+	first := make([]string, len(calls))
+	for i, c := range calls {
+		first[i] = c()
+	}
+	for i, c := range slices.Backward(calls) {
+		if again := c(); again != first[i] {
+			t.Errorf("call %d backwards: %s, not %s", i, again, first[i])
+		}
+	}
+	var all sync.WaitGroup
+	for range 4 {
+		all.Go(func() {
+			for i, c := range calls {
+				if again := c(); again != first[i] {
+					t.Errorf("call %d beside others: %s, not %s", i, again, first[i])
+				}
+			}
+		})
+	}
+	all.Wait()
+}
