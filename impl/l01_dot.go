@@ -63,8 +63,10 @@ func VvHas(v Vv, d Dot) (bool, int) {
 	if !VvOK(v) || !DotOK(d) {
 		return false, ErrBad
 	}
-	return d.N <= v[d.Node], OK
+	return knows(v, d), OK
 }
+
+func knows(v Vv, d Dot) bool { return d.N <= v[d.Node] }
 
 func VvAdd(v Vv, d Dot) (Vv, int) {
 	if !VvOK(v) || !DotOK(d) {
@@ -94,8 +96,9 @@ func OrderDots(a, b Dot) (int, int) {
 	if !DotOK(a) || !DotOK(b) {
 		return 0, ErrBad
 	}
-	if a.Node != b.Node {
-		return cmp.Compare(a.Node, b.Node), OK
-	}
-	return cmp.Compare(a.N, b.N), OK
+	return compareDots(a, b), OK
+}
+
+func compareDots(a, b Dot) int {
+	return cmp.Or(cmp.Compare(a.Node, b.Node), cmp.Compare(a.N, b.N))
 }

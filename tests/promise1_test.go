@@ -12,7 +12,8 @@ import (
 )
 
 // Promise 1. A call tells its answers as a text, so that calls of all kinds can be asked in any order and held against
-// each other. What is handed in so far are texts, numbers, arrays and structs of these: values that no call can change.
+// each other. What is handed in as texts, numbers, arrays and structs of these no call can change; of lists
+// memory_test.go asks it.
 type call func() string
 
 func told(name string, answers ...any) string { return name + fmt.Sprintln(answers...) }
@@ -54,6 +55,31 @@ func callsOfDots(a, b dot) []call {
 	}
 }
 
+func callsOfObjs(a, b obj) []call {
+	return []call{
+		func() string { o, code := impl.Join(a, b); return told("Join", o, code) },
+		func() string { covers, code := impl.Covers(a, b); return told("Covers", covers, code) },
+		func() string { return told("SameObj", impl.SameObj(a, b)) },
+	}
+}
+
+func callsOfObj(o obj) []call {
+	all := []call{
+		func() string { return told("ObjOK", impl.ObjOK(o)) },
+		func() string { list, code := impl.LiveValues(o); return told("LiveValues", list, code) },
+	}
+	for _, ctx := range []vv{{}, {5, 5, 0}, o.Seen, {impl.MaxDot, impl.MaxDot, impl.MaxDot}, {0, -1}} {
+		all = append(all, func() string { covered, code := impl.Covered(o, ctx); return told("Covered", covered, code) })
+		for _, s := range []sibling{live(0, 1, 5), tomb(1, 5), live(2, 9, impl.MaxValue+1), {}} {
+			all = append(all, func() string {
+				more, code := impl.Write(o, ctx, s.Dot, s.Value, s.Dead)
+				return told("Write", more, code)
+			})
+		}
+	}
+	return all
+}
+
 // Right and wrong arguments, each with each.
 func someCalls() []call {
 	all := callsOfCodes()
@@ -70,6 +96,13 @@ func someCalls() []call {
 	for _, d := range ds {
 		for _, e := range ds {
 			all = append(all, callsOfDots(d, e)...)
+		}
+	}
+	objs := append(rightObjs(), wrongObjs()[:20]...)
+	for _, a := range objs {
+		all = append(all, callsOfObj(a)...)
+		for _, b := range objs {
+			all = append(all, callsOfObjs(a, b)...)
 		}
 	}
 	return all
