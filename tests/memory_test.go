@@ -43,6 +43,7 @@ var objCalls = []objCall{
 	{"Covers", func(a, b obj) obj { impl.Covers(a, b); return obj{} }},
 	{"Covered", func(a, b obj) obj { impl.Covered(a, b.Seen); return obj{} }},
 	{"LiveValues", func(a, b obj) obj { impl.LiveValues(a); return obj{} }},
+	{"ObjText", func(a, b obj) obj { impl.ObjText(a); return obj{} }},
 	{"Join", func(a, b obj) obj { o, _ := impl.Join(a, b); return o }},
 	{"Write knowing nothing", func(a, b obj) obj { o, _ := impl.Write(a, vv{}, dot{Node: 0, N: impl.MaxDot}, 7, false); return o }},
 	{"Write at the end", func(a, b obj) obj { o, _ := impl.Write(a, vv{}, dot{Node: 2, N: impl.MaxDot}, 7, false); return o }},
@@ -90,6 +91,23 @@ func TestAnObjectJoinedToItself(t *testing.T) {
 		scribble(answer.Sibs, live(1, 12, 12))
 		if !a.untouched() {
 			t.Fatal("Join answers its argument's memory", i)
+		}
+	}
+}
+
+// What is read of one text twice has no memory in common.
+func TestReadObjectsShareNothing(t *testing.T) {
+	for i, o := range rightObjs() {
+		text, code := impl.ObjText(o)
+		if code != impl.OK {
+			t.Fatal("ObjText", i, code)
+		}
+		first, _ := impl.ReadObj(text)
+		second, _ := impl.ReadObj(text)
+		scribble(first.Sibs, live(1, 12, 12))
+		third, _ := impl.ReadObj(text)
+		if !alike(second, o) || !alike(third, o) {
+			t.Fatal("ReadObj", i, second, third)
 		}
 	}
 }

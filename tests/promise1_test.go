@@ -67,6 +67,7 @@ func callsOfObj(o obj) []call {
 	all := []call{
 		func() string { return told("ObjOK", impl.ObjOK(o)) },
 		func() string { list, code := impl.LiveValues(o); return told("LiveValues", list, code) },
+		func() string { text, code := impl.ObjText(o); return told("ObjText", text, code) },
 	}
 	for _, ctx := range []vv{{}, {5, 5, 0}, o.Seen, {impl.MaxDot, impl.MaxDot, impl.MaxDot}, {0, -1}} {
 		all = append(all, func() string { covered, code := impl.Covered(o, ctx); return told("Covered", covered, code) })
@@ -80,12 +81,26 @@ func callsOfObj(o obj) []call {
 	return all
 }
 
+func callsOfTexts() []call {
+	var all []call
+	for _, text := range []string{"", "a1", "b07", "c9999", "a10000", "d1", "0.0.0", "3.0.7", "3.0", "3.00.7", "1.0.0|a1=0", "2.3.1|a2=8|c1!",
+		"2.3.1|c1!|a2=8", "2.3.1|a2", "0.0.1|c1!", "0.0.1|c1!\xff", "\xff", "a" + strings.Repeat("9", 100),
+		strings.Repeat("0", impl.MaxText), strings.Repeat("0", impl.MaxText+1)} {
+		all = append(all,
+			func() string { d, code := impl.ReadDot(text); return told("ReadDot", d, code) },
+			func() string { v, code := impl.ReadVv(text); return told("ReadVv", v, code) },
+			func() string { o, code := impl.ReadObj(text); return told("ReadObj", o, code) })
+	}
+	return all
+}
+
 // Right and wrong arguments, each with each.
 func someCalls() []call {
-	all := callsOfCodes()
+	all := append(callsOfCodes(), callsOfTexts()...)
 	vs := append(wrongVvs(), vv{}, vv{3, 0, 7}, vv{1, 2, 7}, vv{impl.MaxDot, impl.MaxDot, impl.MaxDot})
 	ds := append(slices.Clone(wrongDots), dot{Node: 0, N: 1}, dot{Node: 1, N: 5}, dot{Node: 2, N: impl.MaxDot})
 	for _, v := range vs {
+		all = append(all, func() string { text, code := impl.VvText(v); return told("VvText", text, code) })
 		for _, u := range vs {
 			all = append(all, callsOfVvs(v, u)...)
 		}
@@ -94,6 +109,7 @@ func someCalls() []call {
 		}
 	}
 	for _, d := range ds {
+		all = append(all, func() string { text, code := impl.DotText(d); return told("DotText", text, code) })
 		for _, e := range ds {
 			all = append(all, callsOfDots(d, e)...)
 		}
