@@ -2,6 +2,7 @@ package tests
 
 import (
 	"slices"
+	"strings"
 	"testing"
 
 	"loop.example/g00535/impl"
@@ -108,6 +109,95 @@ func TestReadObjectsShareNothing(t *testing.T) {
 		third, _ := impl.ReadObj(text)
 		if !alike(second, o) || !alike(third, o) {
 			t.Fatal("ReadObj", i, second, third)
+		}
+	}
+}
+
+// A lent disk's lists stand in one piece of memory, each with room behind its end: what is written behind the lines that
+// are sure may reach those that are not.
+type lentDisk struct {
+	disk
+	room, was []string
+}
+
+func lendDisk(d disk) lentDisk {
+	room := slices.Clip(slices.Concat(d.Sure, d.Unsure, []string{"1:50:1", "1:51:2", "1:52:3"}))
+	sure, all := len(d.Sure), lines(d)
+	return lentDisk{disk{Sure: room[:sure], Unsure: room[sure:all]}, room, slices.Clone(room)}
+}
+
+func (l lentDisk) untouched() bool { return slices.Equal(l.room, l.was) }
+
+type diskCall struct {
+	name string
+	ask  func(d disk) disk
+}
+
+var diskCalls = []diskCall{
+	{"DiskOK", func(d disk) disk { impl.DiskOK(d); return disk{} }},
+	{"Append", func(d disk) disk { x, _ := impl.Append(d, "more"); return x }},
+	{"Append of nothing", func(d disk) disk { x, _ := impl.Append(d, ""); return x }},
+	{"Append of too long a text", func(d disk) disk { x, _ := impl.Append(d, strings.Repeat("x", impl.MaxText+1)); return x }},
+	{"Sync", func(d disk) disk { x, _ := impl.Sync(d); return x }},
+	{"CrashDisk keeping none", func(d disk) disk { x, _ := impl.CrashDisk(d, 0, 0); return x }},
+	{"CrashDisk tearing the first", func(d disk) disk { x, _ := impl.CrashDisk(d, 0, 3); return x }},
+	{"CrashDisk keeping one", func(d disk) disk { x, _ := impl.CrashDisk(d, 1, 0); return x }},
+	{"CrashDisk tearing the second", func(d disk) disk { x, _ := impl.CrashDisk(d, 1, 3); return x }},
+	{"CrashDisk keeping all", func(d disk) disk { x, _ := impl.CrashDisk(d, impl.MaxRecords, impl.MaxText); return x }},
+	{"CrashDisk out of range", func(d disk) disk { x, _ := impl.CrashDisk(d, -1, 0); return x }},
+	{"Recover", func(d disk) disk { texts, _ := impl.Recover(d); return disk{Sure: texts} }},
+}
+
+func copyOfDisk(d disk) disk { return disk{Sure: slices.Clone(d.Sure), Unsure: slices.Clone(d.Unsure)} }
+
+func TestNoCallTouchesADisk(t *testing.T) {
+	for i, d := range append(rightDisks(), wrongDisks()...) {
+		for _, c := range diskCalls {
+			lent := lendDisk(d)
+			answer := c.ask(lent.disk)
+			if !lent.untouched() {
+				t.Fatal(c.name, "changes an argument", i)
+			}
+			kept := copyOfDisk(answer)
+			scribble(lent.room, "scribble")
+			if !alikeDisks(answer, kept) {
+				t.Fatal(c.name, "answers an argument's memory", i)
+			}
+			lent = lendDisk(d)
+			answer = c.ask(lent.disk)
+			scribble(answer.Sure, "scribble")
+			if !slices.Equal(answer.Unsure, kept.Unsure) || !lent.untouched() {
+				t.Fatal(c.name, "answers sure lines in memory that others have", i)
+			}
+			answer = c.ask(lent.disk)
+			scribble(answer.Unsure, "scribble")
+			if !slices.Equal(answer.Sure, kept.Sure) || !lent.untouched() {
+				t.Fatal(c.name, "answers lines that are not sure in memory that others have", i)
+			}
+			if again := c.ask(lent.disk); !alikeDisks(again, kept) {
+				t.Fatal(c.name, "answers what was answered ahead", i)
+			}
+		}
+	}
+}
+
+// The same list handed in as both of a disk's lists is no other case.
+func TestADiskWithOneListTwice(t *testing.T) {
+	for _, c := range diskCalls {
+		list := sealedLines("ab", "c", "d")
+		room := append(slices.Clone(list), "behind", "behind")
+		twice := disk{Sure: room[:3], Unsure: room[:3]}
+		apart := disk{Sure: slices.Clone(list), Unsure: slices.Clone(list)}
+		answer, want := c.ask(twice), c.ask(apart)
+		if !alikeDisks(answer, want) {
+			t.Error(c.name, answer, want)
+		}
+		scribble(answer.Sure, "scribble")
+		if !slices.Equal(answer.Unsure, want.Unsure) {
+			t.Error(c.name, "answers one list twice")
+		}
+		if !slices.Equal(room, append(slices.Clone(list), "behind", "behind")) {
+			t.Error(c.name, "changes an argument")
 		}
 	}
 }

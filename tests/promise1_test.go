@@ -94,9 +94,39 @@ func callsOfTexts() []call {
 	return all
 }
 
+func callsOfLines() []call {
+	var all []call
+	for _, text := range []string{"", "ab", "0:0:", "2:296:ab", "2:297:ab", "02:296:ab", "2:296", ":", "::", "\xff", "1:256:\xff",
+		strings.Repeat("9", 100) + ":0:", strings.Repeat("0", impl.MaxText), strings.Repeat("0", impl.MaxText+1)} {
+		all = append(all,
+			func() string { return told("SumOf", impl.SumOf(text)) },
+			func() string { line, code := impl.SealLine(text); return told("SealLine", line, code) },
+			func() string { back, code := impl.OpenLine(text); return told("OpenLine", back, code) })
+	}
+	return all
+}
+
+func callsOfDisk(d disk) []call {
+	all := []call{
+		func() string { return told("DiskOK", impl.DiskOK(d)) },
+		func() string { x, code := impl.Sync(d); return told("Sync", x, code) },
+		func() string { texts, code := impl.Recover(d); return told("Recover", texts, code) },
+	}
+	for _, text := range []string{"", "ab", strings.Repeat("x", impl.MaxText+1)} {
+		all = append(all, func() string { x, code := impl.Append(d, text); return told("Append", x, code) })
+	}
+	for _, n := range [][2]int{{0, 0}, {0, 5}, {1, 0}, {1, impl.MaxText}, {impl.MaxRecords, 1}, {-1, 0}, {0, impl.MaxText + 1}, {math.MaxInt, math.MinInt}} {
+		all = append(all, func() string { x, code := impl.CrashDisk(d, n[0], n[1]); return told("CrashDisk", x, code) })
+	}
+	return all
+}
+
 // Right and wrong arguments, each with each.
 func someCalls() []call {
-	all := append(callsOfCodes(), callsOfTexts()...)
+	all := slices.Concat(callsOfCodes(), callsOfTexts(), callsOfLines())
+	for _, d := range append(rightDisks(), wrongDisks()...) {
+		all = append(all, callsOfDisk(d)...)
+	}
 	vs := append(wrongVvs(), vv{}, vv{3, 0, 7}, vv{1, 2, 7}, vv{impl.MaxDot, impl.MaxDot, impl.MaxDot})
 	ds := append(slices.Clone(wrongDots), dot{Node: 0, N: 1}, dot{Node: 1, N: 5}, dot{Node: 2, N: impl.MaxDot})
 	for _, v := range vs {
