@@ -68,6 +68,21 @@ func startsName(b byte) bool {
 
 func isDigit(b byte) bool { return '0' <= b && b <= '9' }
 
+// The most letters that a key has.
+const maxKey = 6
+
+func keyOK(t string) bool {
+	if len(t) < 1 || len(t) > maxKey {
+		return false
+	}
+	for i := range len(t) {
+		if t[i] < 'a' || t[i] > 'z' {
+			return false
+		}
+	}
+	return true
+}
+
 func CodeWord(code int) string {
 	if code < 0 || code >= len(codeWords) {
 		return ""

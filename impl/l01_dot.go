@@ -18,9 +18,9 @@ type Dot struct{ Node, N int }
 
 type Vv [Nodes]int
 
-func DotOK(d Dot) bool {
-	return 0 <= d.Node && d.Node < Nodes && 1 <= d.N && d.N <= MaxDot
-}
+func DotOK(d Dot) bool { return isNode(d.Node) && 1 <= d.N && d.N <= MaxDot }
+
+func isNode(id int) bool { return 0 <= id && id < Nodes }
 
 func VvOK(v Vv) bool {
 	for _, n := range v {

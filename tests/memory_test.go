@@ -1,9 +1,11 @@
 package tests
 
 import (
+	"runtime"
 	"slices"
 	"strings"
 	"testing"
+	"unsafe"
 
 	"loop.example/g00535/impl"
 )
@@ -198,6 +200,201 @@ func TestADiskWithOneListTwice(t *testing.T) {
 		}
 		if !slices.Equal(room, append(slices.Clone(list), "behind", "behind")) {
 			t.Error(c.name, "changes an argument")
+		}
+	}
+}
+
+// The memory of a list, up to the end of the room behind it.
+type span struct{ from, to uintptr }
+
+func spanOf[T any](list []T) span {
+	var one T
+	from := uintptr(unsafe.Pointer(unsafe.SliceData(list)))
+	return span{from, from + uintptr(cap(list))*unsafe.Sizeof(one)}
+}
+
+func apart(spans, others []span) bool {
+	for _, a := range spans {
+		for _, b := range others {
+			if a.from < b.to && b.from < a.to {
+				return false
+			}
+		}
+	}
+	return true
+}
+
+func allApart(spans []span) bool {
+	for i := range spans {
+		if !apart(spans[:i], spans[i:i+1]) {
+			return false
+		}
+	}
+	return true
+}
+
+func spansOfNode(x node) []span {
+	all := []span{spanOf(x.Cells), spanOf(x.Feed), spanOf(x.Disk.Sure), spanOf(x.Disk.Unsure)}
+	for _, c := range x.Cells {
+		all = append(all, spanOf(c.Obj.Sibs))
+	}
+	return all
+}
+
+// A lent node has room behind the end of each of its lists, and of those of its cells' objects.
+type lentNode struct {
+	node
+	cells, cellsWere []cell
+	feed, feedWas    []entry
+	disk             lentDisk
+	objs             []lent
+}
+
+func lendNode(x node) lentNode {
+	l := lentNode{node: x, disk: lendDisk(x.Disk)}
+	for _, c := range x.Cells {
+		o := lend(c.Obj)
+		l.objs = append(l.objs, o)
+		l.cells = append(l.cells, cell{Key: c.Key, Obj: o.obj})
+	}
+	l.cells = slices.Clip(append(l.cells, cell{Key: "behind", Obj: object(vv{7, 7, 7})}, cell{Key: "behind"}))
+	l.feed = slices.Clip(append(slices.Clone(x.Feed), entry{Key: "behind"}, entry{Dot: dot{Node: 2, N: 77}}))
+	l.cellsWere, l.feedWas = slices.Clone(l.cells), slices.Clone(l.feed)
+	l.Cells, l.Feed, l.Disk = l.cells[:len(x.Cells)], l.feed[:len(x.Feed)], l.disk.disk
+	return l
+}
+
+func (l lentNode) untouched() bool {
+	sameCell := func(a, b cell) bool {
+		return a.Key == b.Key && a.Obj.Seen == b.Obj.Seen && spanOf(a.Obj.Sibs) == spanOf(b.Obj.Sibs)
+	}
+	return slices.EqualFunc(l.cells, l.cellsWere, sameCell) && slices.Equal(l.feed, l.feedWas) && l.disk.untouched() &&
+		!slices.ContainsFunc(l.objs, func(o lent) bool { return !o.untouched() })
+}
+
+// What a call on a node and an object answers: calls leave out what they do not ask or tell.
+type nodeAnswer struct {
+	node
+	obj  obj
+	keys []string
+}
+
+func (a nodeAnswer) spans() []span {
+	return append(spansOfNode(a.node), spanOf(a.obj.Sibs), spanOf(a.keys))
+}
+
+type nodeCall struct {
+	name string
+	ask  func(x node, o obj) nodeAnswer
+}
+
+var nodeCalls = []nodeCall{
+	{"NodeOK", func(x node, o obj) nodeAnswer { impl.NodeOK(x); return nodeAnswer{} }},
+	{"ObjAt", func(x node, o obj) nodeAnswer { at, _ := impl.ObjAt(x, "b"); return nodeAnswer{obj: at} }},
+	{"ObjAt of none", func(x node, o obj) nodeAnswer { at, _ := impl.ObjAt(x, "none"); return nodeAnswer{obj: at} }},
+	{"PutNode knowing nothing", func(x node, o obj) nodeAnswer {
+		y, _, _ := impl.PutNode(x, "b", vv{}, 7, false)
+		return nodeAnswer{node: y}
+	}},
+	{"PutNode knowing as much", func(x node, o obj) nodeAnswer {
+		y, _, _ := impl.PutNode(x, "b", o.Seen, 0, true)
+		return nodeAnswer{node: y}
+	}},
+	{"PutNode of a new key", func(x node, o obj) nodeAnswer {
+		y, _, _ := impl.PutNode(x, "aaa", vv{}, 7, false)
+		return nodeAnswer{node: y}
+	}},
+	{"PutNode knowing too much", func(x node, o obj) nodeAnswer {
+		y, _, _ := impl.PutNode(x, "b", vv{999, 999, 999}, 7, false)
+		return nodeAnswer{node: y}
+	}},
+	{"PutNode of a wrong value", func(x node, o obj) nodeAnswer {
+		y, _, _ := impl.PutNode(x, "b", vv{}, -7, false)
+		return nodeAnswer{node: y}
+	}},
+	{"PutNode of a wrong key", func(x node, o obj) nodeAnswer {
+		y, _, _ := impl.PutNode(x, "B", vv{}, 7, false)
+		return nodeAnswer{node: y}
+	}},
+	{"JoinNode", func(x node, o obj) nodeAnswer { y, _, _ := impl.JoinNode(x, "b", o); return nodeAnswer{node: y} }},
+	{"JoinNode of a new key", func(x node, o obj) nodeAnswer { y, _, _ := impl.JoinNode(x, "aaa", o); return nodeAnswer{node: y} }},
+	{"JoinNode of nothing new", func(x node, o obj) nodeAnswer { y, _, _ := impl.JoinNode(x, "b", obj{}); return nodeAnswer{node: y} }},
+	{"JoinNode of a wrong key", func(x node, o obj) nodeAnswer { y, _, _ := impl.JoinNode(x, "B", o); return nodeAnswer{node: y} }},
+	{"SyncNode", func(x node, o obj) nodeAnswer { y, _ := impl.SyncNode(x); return nodeAnswer{node: y} }},
+	{"CrashNode keeping none", func(x node, o obj) nodeAnswer { y, _ := impl.CrashNode(x, 0, 0); return nodeAnswer{node: y} }},
+	{"CrashNode tearing the first", func(x node, o obj) nodeAnswer { y, _ := impl.CrashNode(x, 0, 5); return nodeAnswer{node: y} }},
+	{"CrashNode keeping one", func(x node, o obj) nodeAnswer { y, _ := impl.CrashNode(x, 1, 0); return nodeAnswer{node: y} }},
+	{"CrashNode keeping all", func(x node, o obj) nodeAnswer {
+		y, _ := impl.CrashNode(x, impl.MaxRecords, 0)
+		return nodeAnswer{node: y}
+	}},
+	{"CrashNode out of range", func(x node, o obj) nodeAnswer { y, _ := impl.CrashNode(x, -1, 0); return nodeAnswer{node: y} }},
+	{"KeysOf", func(x node, o obj) nodeAnswer { keys, _ := impl.KeysOf(x); return nodeAnswer{keys: keys} }},
+}
+
+func TestNoCallTouchesANode(t *testing.T) {
+	objs := []obj{{}, object(vv{1, 0, 4}, live(0, 1, 5), tomb(2, 4)), object(vv{0, 9, 9}, live(1, 2, 3), live(1, 8, 1), tomb(2, 9)), object(vv{300}),
+		object(vv{0, impl.MaxSibs}, run(1, 1, impl.MaxSibs)...), wrongObjs()[0], wrongObjs()[6]}
+	for i, x := range append(rightNodes(t), wrongNodes(t)[:60]...) {
+		for k, o := range objs {
+			for _, c := range nodeCalls {
+				a, b := lendNode(x), lend(o)
+				answer := c.ask(a.node, b.obj)
+				if !a.untouched() || !b.untouched() {
+					t.Fatal(c.name, "changes an argument", i, k)
+				}
+				if !apart(answer.spans(), append(spansOfNode(a.node), spanOf(b.Sibs))) {
+					t.Fatal(c.name, "answers an argument's memory", i, k)
+				}
+				if !allApart(answer.spans()) {
+					t.Fatal(c.name, "answers two lists in one memory", i, k)
+				}
+				runtime.KeepAlive(answer)
+			}
+		}
+	}
+}
+
+// The answers of one call do not hang on what was done with those of another.
+func TestAnswersOfNodesAreTheirOwn(t *testing.T) {
+	x := nodeTold(t, 0, 4, someRecords...)
+	o := object(vv{0, 9, 9}, live(1, 2, 3), live(1, 8, 1), tomb(2, 9))
+	for _, c := range nodeCalls {
+		first, second := c.ask(x, o), c.ask(x, o)
+		for _, each := range first.Cells {
+			scribble(each.Obj.Sibs, live(1, 12, 12))
+		}
+		scribble(first.Cells, cell{Key: "scribble"})
+		scribble(first.Feed, entry{Key: "scribble"})
+		scribble(first.Disk.Sure, "scribble")
+		scribble(first.Disk.Unsure, "scribble")
+		scribble(first.obj.Sibs, live(1, 12, 12))
+		scribble(first.keys, "scribble")
+		third := c.ask(x, o)
+		if !alikeNodes(second.node, third.node) || !alike(second.obj, third.obj) || !slices.Equal(second.keys, third.keys) {
+			t.Fatal(c.name, short(second), short(third))
+		}
+		if !impl.NodeOK(x) {
+			t.Fatal(c.name, "answers its argument's memory")
+		}
+	}
+}
+
+// Records that are handed in are only read.
+func TestNoReplayTouchesItsRecords(t *testing.T) {
+	for _, records := range [][]string{nil, someRecords, someRecords[:5], append(slices.Clone(someRecords), "none"), puts(1, impl.MaxRecords+1, oneKey)} {
+		room := slices.Clip(append(slices.Clone(records), "put behind 5.0.0|a5=1", "cut 4"))
+		was := slices.Clone(room)
+		x, code := impl.ReplayNode(0, room[:len(records)])
+		if !slices.Equal(room, was) {
+			t.Fatal("ReplayNode changes its records", short(records))
+		}
+		if !apart(spansOfNode(x), []span{spanOf(room)}) || !allApart(spansOfNode(x)) {
+			t.Fatal("ReplayNode answers memory that others have", short(records))
+		}
+		scribble(room, "scribble")
+		if code == impl.OK && !alikeNodes(x, sureTold(t, 0, records...)) {
+			t.Fatal("ReplayNode answers its records' memory", short(records))
 		}
 	}
 }

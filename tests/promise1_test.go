@@ -121,9 +121,49 @@ func callsOfDisk(d disk) []call {
 	return all
 }
 
+func callsOfNode(x node) []call {
+	all := []call{
+		func() string { return told("NodeOK", impl.NodeOK(x)) },
+		func() string { y, code := impl.SyncNode(x); return told("SyncNode", y, code) },
+		func() string { keys, code := impl.KeysOf(x); return told("KeysOf", keys, code) },
+	}
+	for _, n := range [][2]int{{0, 0}, {0, 5}, {1, impl.MaxText}, {impl.MaxRecords, 1}, {-1, 0}, {0, math.MaxInt}} {
+		all = append(all, func() string { y, code := impl.CrashNode(x, n[0], n[1]); return told("CrashNode", y, code) })
+	}
+	for _, key := range []string{"b", "k", "new", "", "B", strings.Repeat("a", impl.MaxText+1)} {
+		all = append(all, func() string { o, code := impl.ObjAt(x, key); return told("ObjAt", o, code) })
+		for _, ctx := range []vv{{}, {1, 0, 4}, {impl.MaxDot}, {0, -1}} {
+			all = append(all,
+				func() string { y, d, code := impl.PutNode(x, key, ctx, 5, false); return told("PutNode", y, d, code) },
+				func() string { y, d, code := impl.PutNode(x, key, ctx, 5, true); return told("PutNode", y, d, code) },
+				func() string { y, b, code := impl.JoinNode(x, key, object(ctx)); return told("JoinNode", y, b, code) })
+		}
+		all = append(all, func() string {
+			y, brought, code := impl.JoinNode(x, key, object(vv{0, 2, 4}, live(1, 2, 7), tomb(2, 4)))
+			return told("JoinNode", y, brought, code)
+		})
+	}
+	return all
+}
+
+func callsOfRecords() []call {
+	var all []call
+	for _, id := range []int{math.MinInt, -1, 0, 1, 2, 3} {
+		all = append(all, func() string { x, code := impl.NewNode(id); return told("NewNode", x, code) })
+		for _, records := range [][]string{nil, someRecords, someRecords[:3], {""}, {"join k 0.0.0"}, {"join k 0.0.0|"}, {"cut 1"}, manyTexts(impl.MaxRecords),
+			make([]string, impl.MaxRecords+1), make([]string, impl.MaxList+1)} {
+			all = append(all, func() string { x, code := impl.ReplayNode(id, records); return told("ReplayNode", x, code) })
+		}
+	}
+	return all
+}
+
 // Right and wrong arguments, each with each.
-func someCalls() []call {
-	all := slices.Concat(callsOfCodes(), callsOfTexts(), callsOfLines())
+func someCalls(t *testing.T) []call {
+	all := slices.Concat(callsOfCodes(), callsOfTexts(), callsOfLines(), callsOfRecords())
+	for _, x := range append(rightNodes(t)[:10], wrongNodes(t)[:40]...) {
+		all = append(all, callsOfNode(x)...)
+	}
 	for _, d := range append(rightDisks(), wrongDisks()...) {
 		all = append(all, callsOfDisk(d)...)
 	}
@@ -155,7 +195,7 @@ func someCalls() []call {
 }
 
 func TestAlikeArgumentsHaveAlikeAnswers(t *testing.T) {
-	calls := someCalls()
+	calls := someCalls(t)
 	first := make([]string, len(calls))
 	for i, c := range calls {
 		first[i] = c()
