@@ -275,12 +275,13 @@ func (l lentNode) untouched() bool {
 // What a call on a node and an object answers: calls leave out what they do not ask or tell.
 type nodeAnswer struct {
 	node
-	obj  obj
-	keys []string
+	obj     obj
+	keys    []string
+	numbers []int
 }
 
 func (a nodeAnswer) spans() []span {
-	return append(spansOfNode(a.node), spanOf(a.obj.Sibs), spanOf(a.keys))
+	return append(spansOfNode(a.node), spanOf(a.obj.Sibs), spanOf(a.keys), spanOf(a.numbers))
 }
 
 type nodeCall struct {
@@ -330,6 +331,15 @@ var nodeCalls = []nodeCall{
 	}},
 	{"CrashNode out of range", func(x node, o obj) nodeAnswer { y, _ := impl.CrashNode(x, -1, 0); return nodeAnswer{node: y} }},
 	{"KeysOf", func(x node, o obj) nodeAnswer { keys, _ := impl.KeysOf(x); return nodeAnswer{keys: keys} }},
+	{"Digest", func(x node, o obj) nodeAnswer { sums, _ := impl.Digest(x); return nodeAnswer{numbers: sums} }},
+	{"KeysIn", func(x node, o obj) nodeAnswer { keys, _ := impl.KeysIn(x, 3); return nodeAnswer{keys: keys} }},
+	{"KeysIn of few", func(x node, o obj) nodeAnswer { keys, _ := impl.KeysIn(x, 0); return nodeAnswer{keys: keys} }},
+	{"KeysIn out of range", func(x node, o obj) nodeAnswer { keys, _ := impl.KeysIn(x, impl.Buckets); return nodeAnswer{keys: keys} }},
+	{"DiffBuckets", func(x node, o obj) nodeAnswer {
+		list, _ := impl.DiffBuckets(x, node{})
+		return nodeAnswer{numbers: list}
+	}},
+	{"DiffBuckets of one node twice", func(x node, o obj) nodeAnswer { list, _ := impl.DiffBuckets(x, x); return nodeAnswer{numbers: list} }},
 }
 
 func TestNoCallTouchesANode(t *testing.T) {
@@ -370,12 +380,33 @@ func TestAnswersOfNodesAreTheirOwn(t *testing.T) {
 		scribble(first.Disk.Unsure, "scribble")
 		scribble(first.obj.Sibs, live(1, 12, 12))
 		scribble(first.keys, "scribble")
+		scribble(first.numbers, -7)
 		third := c.ask(x, o)
-		if !alikeNodes(second.node, third.node) || !alike(second.obj, third.obj) || !slices.Equal(second.keys, third.keys) {
+		if !alikeNodes(second.node, third.node) || !alike(second.obj, third.obj) || !slices.Equal(second.keys, third.keys) ||
+			!slices.Equal(second.numbers, third.numbers) {
 			t.Fatal(c.name, short(second), short(third))
 		}
 		if !impl.NodeOK(x) {
 			t.Fatal(c.name, "answers its argument's memory")
+		}
+	}
+}
+
+// Two nodes that are held against each other are only read.
+func TestNoDiffTouchesItsNodes(t *testing.T) {
+	nodes := append(rightNodes(t), wrongNodes(t)[:60]...)
+	for i, x := range nodes {
+		for k, y := range nodes {
+			a, b := lendNode(x), lendNode(y)
+			unlike, _ := impl.DiffBuckets(a.node, b.node)
+			if !a.untouched() || !b.untouched() {
+				t.Fatal("DiffBuckets changes an argument", i, k)
+			}
+			kept := slices.Clone(unlike)
+			scribble(unlike, -7)
+			if again, _ := impl.DiffBuckets(a.node, b.node); !slices.Equal(again, kept) {
+				t.Fatal("DiffBuckets answers what was answered ahead", i, k)
+			}
 		}
 	}
 }

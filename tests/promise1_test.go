@@ -126,6 +126,10 @@ func callsOfNode(x node) []call {
 		func() string { return told("NodeOK", impl.NodeOK(x)) },
 		func() string { y, code := impl.SyncNode(x); return told("SyncNode", y, code) },
 		func() string { keys, code := impl.KeysOf(x); return told("KeysOf", keys, code) },
+		func() string { sums, code := impl.Digest(x); return told("Digest", sums, code) },
+	}
+	for _, bucket := range []int{math.MinInt, -1, 0, 1, 2, 3, 4, math.MaxInt} {
+		all = append(all, func() string { keys, code := impl.KeysIn(x, bucket); return told("KeysIn", keys, code) })
 	}
 	for _, n := range [][2]int{{0, 0}, {0, 5}, {1, impl.MaxText}, {impl.MaxRecords, 1}, {-1, 0}, {0, math.MaxInt}} {
 		all = append(all, func() string { y, code := impl.CrashNode(x, n[0], n[1]); return told("CrashNode", y, code) })
@@ -146,6 +150,28 @@ func callsOfNode(x node) []call {
 	return all
 }
 
+func callsOfNodes(t *testing.T) []call {
+	nodes := append(rightNodes(t)[:10], wrongNodes(t)[:40]...)
+	var all []call
+	for i, x := range nodes {
+		all = append(all, callsOfNode(x)...)
+		for _, y := range append(nodes[:i:i], rightNodes(t)[12:]...) {
+			all = append(all,
+				func() string { buckets, code := impl.DiffBuckets(x, y); return told("DiffBuckets", buckets, code) },
+				func() string { buckets, code := impl.DiffBuckets(y, x); return told("DiffBuckets", buckets, code) })
+		}
+	}
+	return all
+}
+
+func callsOfKeys() []call {
+	var all []call
+	for _, key := range slices.Concat(rightKeys, wrongKeys, longKeys) {
+		all = append(all, func() string { bucket, code := impl.BucketOf(key); return told("BucketOf", bucket, code) })
+	}
+	return all
+}
+
 func callsOfRecords() []call {
 	var all []call
 	for _, id := range []int{math.MinInt, -1, 0, 1, 2, 3} {
@@ -160,10 +186,7 @@ func callsOfRecords() []call {
 
 // Right and wrong arguments, each with each.
 func someCalls(t *testing.T) []call {
-	all := slices.Concat(callsOfCodes(), callsOfTexts(), callsOfLines(), callsOfRecords())
-	for _, x := range append(rightNodes(t)[:10], wrongNodes(t)[:40]...) {
-		all = append(all, callsOfNode(x)...)
-	}
+	all := slices.Concat(callsOfCodes(), callsOfTexts(), callsOfLines(), callsOfRecords(), callsOfNodes(t), callsOfKeys())
 	for _, d := range append(rightDisks(), wrongDisks()...) {
 		all = append(all, callsOfDisk(d)...)
 	}
