@@ -83,6 +83,17 @@ func keyOK(t string) bool {
 	return true
 }
 
+// keyFault tells what a call that is given a key alone looks for in it.
+func keyFault(key string) int {
+	switch {
+	case len(key) > MaxText:
+		return ErrLong
+	case !keyOK(key):
+		return ErrKey
+	}
+	return OK
+}
+
 func CodeWord(code int) string {
 	if code < 0 || code >= len(codeWords) {
 		return ""

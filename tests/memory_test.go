@@ -429,3 +429,22 @@ func TestNoReplayTouchesItsRecords(t *testing.T) {
 		}
 	}
 }
+
+// A list of nodes that is written into, behind its end too, changes no later answer.
+func TestAnswersOfTheRingAreTheirOwn(t *testing.T) {
+	for _, key := range slices.Concat(rightKeys, firstCallKeys[:8]) {
+		for range 3 {
+			list, _ := impl.Preference(key)
+			again, _ := impl.Preference(key)
+			owners, _ := impl.Owners(key)
+			others, _ := impl.Owners(key)
+			if !allApart([]span{spanOf(list), spanOf(again), spanOf(owners), spanOf(others)}) {
+				t.Fatal("two answers in one memory", key)
+			}
+			for mark, nodes := range [][]int{list, again, owners, others} {
+				scribble(nodes, mark-7)
+				ringAsTold(t, key, placeTold(key))
+			}
+		}
+	}
+}

@@ -168,6 +168,7 @@ func callsOfKeys() []call {
 	var all []call
 	for _, key := range slices.Concat(rightKeys, wrongKeys, longKeys) {
 		all = append(all, func() string { bucket, code := impl.BucketOf(key); return told("BucketOf", bucket, code) })
+		all = append(all, callsOfRing(key)...)
 	}
 	return all
 }
