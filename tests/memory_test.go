@@ -47,6 +47,11 @@ var objCalls = []objCall{
 	{"Covered", func(a, b obj) obj { impl.Covered(a, b.Seen); return obj{} }},
 	{"LiveValues", func(a, b obj) obj { impl.LiveValues(a); return obj{} }},
 	{"ObjText", func(a, b obj) obj { impl.ObjText(a); return obj{} }},
+	{"ReplyText", func(a, b obj) obj { impl.ReplyText(a); return obj{} }},
+	{"MergeAll of one", func(a, b obj) obj { o, _ := impl.MergeAll([]obj{a}); return o }},
+	{"MergeAll of one beside nothing", func(a, b obj) obj { o, _ := impl.MergeAll([]obj{{}, a, {}}); return o }},
+	{"MergeAll of two", func(a, b obj) obj { o, _ := impl.MergeAll([]obj{a, b}); return o }},
+	{"MergeAll of one twice", func(a, b obj) obj { o, _ := impl.MergeAll([]obj{a, b, a}); return o }},
 	{"Join", func(a, b obj) obj { o, _ := impl.Join(a, b); return o }},
 	{"Write knowing nothing", func(a, b obj) obj { o, _ := impl.Write(a, vv{}, dot{Node: 0, N: impl.MaxDot}, 7, false); return o }},
 	{"Write at the end", func(a, b obj) obj { o, _ := impl.Write(a, vv{}, dot{Node: 2, N: impl.MaxDot}, 7, false); return o }},
@@ -445,6 +450,93 @@ func TestAnswersOfTheRingAreTheirOwn(t *testing.T) {
 				scribble(nodes, mark-7)
 				ringAsTold(t, key, placeTold(key))
 			}
+		}
+	}
+}
+
+// A lent list of replicas has room behind its own end and behind that of each object's siblings.
+type lentObjs struct {
+	list, room []obj
+	objs       []lent
+}
+
+func lendObjs(list []obj) lentObjs {
+	var l lentObjs
+	for _, o := range list {
+		each := lend(o)
+		l.objs = append(l.objs, each)
+		l.room = append(l.room, each.obj)
+	}
+	behind := lend(object(vv{0, 0, 80}))
+	l.objs = append(l.objs, behind)
+	l.room = slices.Clip(append(l.room, behind.obj))
+	l.list = l.room[:len(list)]
+	return l
+}
+
+// untouched asks that each object of the list, and the one behind it, is the one that was lent.
+func (l lentObjs) untouched() bool {
+	for i, each := range l.objs {
+		if got := l.room[i]; !each.untouched() || got.Seen != each.Seen || len(got.Sibs) != len(each.Sibs) || spanOf(got.Sibs) != spanOf(each.Sibs) {
+			return false
+		}
+	}
+	return true
+}
+
+func (l lentObjs) spans() []span {
+	all := []span{spanOf(l.room)}
+	for _, each := range l.objs {
+		all = append(all, spanOf(each.room))
+	}
+	return all
+}
+
+// Lists of none, one, two, three and four replicas: all orders of some, the same one in several places, and wrong ones.
+func listsOfReplicas() [][]obj {
+	objs := append(rightObjs(), wrongObjs()[:12]...)
+	lists := [][]obj{nil, make([]obj, impl.Nodes), make([]obj, impl.Nodes+1), make([]obj, impl.MaxList+1)}
+	for _, a := range objs {
+		lists = append(lists, []obj{a}, []obj{a, a, a}, []obj{a, a, a, a})
+		for _, b := range objs {
+			lists = append(lists, []obj{a, b}, []obj{a, {}, b})
+		}
+	}
+	return lists
+}
+
+func TestNoMergeTouchesItsReplicas(t *testing.T) {
+	for i, list := range listsOfReplicas() {
+		l := lendObjs(list)
+		merged, _ := impl.MergeAll(l.list)
+		stale, _ := impl.StaleOf(l.list)
+		if !l.untouched() {
+			t.Fatal("a merge changes an argument", i)
+		}
+		if !apart([]span{spanOf(merged.Sibs), spanOf(stale)}, l.spans()) {
+			t.Fatal("a merge answers an argument's memory", i)
+		}
+		runtime.KeepAlive(l)
+	}
+}
+
+// A merge or a list of places that is written into, behind its end too, changes no later answer.
+func TestAnswersOfMergesAreTheirOwn(t *testing.T) {
+	for i, list := range listsOfReplicas() {
+		l := lendObjs(list)
+		merged, code := impl.MergeAll(l.list)
+		stale, staleCode := impl.StaleOf(l.list)
+		kept, keptStale := object(merged.Seen, slices.Clone(merged.Sibs)...), slices.Clone(stale)
+		scribble(merged.Sibs, live(1, 12, 12))
+		scribble(stale, -7)
+		if !l.untouched() {
+			t.Fatal("what is answered reaches into an argument", i)
+		}
+		if again, againCode := impl.MergeAll(l.list); !alike(again, kept) || againCode != code {
+			t.Fatal("MergeAll answers what was answered ahead", i, short(again), againCode)
+		}
+		if again, againCode := impl.StaleOf(l.list); !slices.Equal(again, keptStale) || againCode != staleCode {
+			t.Fatal("StaleOf answers what was answered ahead", i, again, againCode)
 		}
 	}
 }

@@ -185,9 +185,40 @@ func callsOfRecords() []call {
 	return all
 }
 
+// Lists of replicas up to one too many, right and wrong ones, and one that is too long.
+func callsOfReplicas(objs []obj) []call {
+	lists := [][]obj{nil, {}, make([]obj, impl.Nodes), make([]obj, impl.Nodes+1), make([]obj, impl.MaxList), make([]obj, impl.MaxList+1)}
+	for i, a := range objs {
+		b, c := objs[(i+3)%len(objs)], objs[(i+7)%len(objs)]
+		lists = append(lists, []obj{a}, []obj{a, a}, []obj{a, b}, []obj{b, a}, []obj{a, b, c}, []obj{{}, c, a}, []obj{a, b, c, a})
+	}
+	var all []call
+	for _, list := range lists {
+		all = append(all,
+			func() string { o, code := impl.MergeAll(list); return told("MergeAll", o, code) },
+			func() string { places, code := impl.StaleOf(list); return told("StaleOf", places, code) })
+	}
+	for _, o := range objs {
+		all = append(all, func() string { text, code := impl.ReplyText(o); return told("ReplyText", text, code) })
+	}
+	return all
+}
+
+func callsOfQuorums() []call {
+	var all []call
+	for _, n := range []int{math.MinInt, -1, 0, 1, 3, 100, 101, math.MaxInt} {
+		for _, r := range []int{math.MinInt, -1, 0, 1, n / 2, n, n + 1, math.MaxInt} {
+			for _, w := range []int{math.MinInt, -1, 0, 1, n / 2, n, n + 1, math.MaxInt} {
+				all = append(all, func() string { meets, code := impl.QuorumMeets(n, r, w); return told("QuorumMeets", meets, code) })
+			}
+		}
+	}
+	return all
+}
+
 // Right and wrong arguments, each with each.
 func someCalls(t *testing.T) []call {
-	all := slices.Concat(callsOfCodes(), callsOfTexts(), callsOfLines(), callsOfRecords(), callsOfNodes(t), callsOfKeys())
+	all := slices.Concat(callsOfCodes(), callsOfTexts(), callsOfLines(), callsOfRecords(), callsOfNodes(t), callsOfKeys(), callsOfQuorums())
 	for _, d := range append(rightDisks(), wrongDisks()...) {
 		all = append(all, callsOfDisk(d)...)
 	}
@@ -209,6 +240,7 @@ func someCalls(t *testing.T) []call {
 		}
 	}
 	objs := append(rightObjs(), wrongObjs()[:20]...)
+	all = append(all, callsOfReplicas(objs)...)
 	for _, a := range objs {
 		all = append(all, callsOfObj(a)...)
 		for _, b := range objs {
