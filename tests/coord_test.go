@@ -57,12 +57,27 @@ func objsIn(texts ...string) []obj {
 	return list
 }
 
+// Replicas, what they make together, and the places of those that are not that.
+type merge struct {
+	list  []string
+	want  string
+	stale []int
+}
+
+func (m merge) ask(t *testing.T) {
+	t.Helper()
+	list := objsIn(m.list...)
+	if got, code := impl.MergeAll(list); objTold(got) != m.want || code != impl.OK {
+		t.Error("MergeAll", m.list, objTold(got), code, "not", m.want)
+	}
+	if got, code := impl.StaleOf(list); !slices.Equal(got, m.stale) || code != impl.OK {
+		t.Error("StaleOf", m.list, got, code, "not", m.stale)
+	}
+	mergesAsTold(t, list...)
+}
+
 func TestMergeAllAndStaleOf(t *testing.T) {
-	for _, c := range []struct {
-		list  []string
-		want  string
-		stale []int
-	}{
+	for _, m := range []merge{
 		{nil, "0.0.0", nil},
 		{[]string{"0.0.0"}, "0.0.0", nil},
 		{[]string{"1.0.0|a1=5"}, "1.0.0|a1=5", nil},
@@ -91,14 +106,7 @@ func TestMergeAllAndStaleOf(t *testing.T) {
 		{[]string{"1.0.0|a1=6", "1.0.0|a1=5", "1.0.0|a1!"}, "1.0.0|a1=6", []int{1, 2}},
 		{[]string{"0.0.0", "1.0.0|a1!", "1.0.0|a1=5"}, "1.0.0|a1!", []int{0, 2}},
 	} {
-		list := objsIn(c.list...)
-		if got, code := impl.MergeAll(list); objTold(got) != c.want || code != impl.OK {
-			t.Error("MergeAll", c.list, objTold(got), code, "not", c.want)
-		}
-		if got, code := impl.StaleOf(list); !slices.Equal(got, c.stale) || code != impl.OK {
-			t.Error("StaleOf", c.list, got, code, "not", c.stale)
-		}
-		mergesAsTold(t, list...)
+		m.ask(t)
 	}
 }
 
@@ -140,11 +148,7 @@ func TestReplicasThatKnowNothing(t *testing.T) {
 
 // What is known and not there is gone, whoever has it; a replica without siblings is stale only if it knows less.
 func TestReplicasThatKnowMoreThanTheyHave(t *testing.T) {
-	for _, c := range []struct {
-		list  []string
-		want  string
-		stale []int
-	}{
+	for _, m := range []merge{
 		{[]string{"1.0.0|a1=5", "1.0.0"}, "1.0.0", []int{0}},
 		{[]string{"1.0.0", "1.0.0|a1=5"}, "1.0.0", []int{1}},
 		{[]string{"3.0.7", "0.2.0"}, "3.2.7", []int{0, 1}},
@@ -155,13 +159,7 @@ func TestReplicasThatKnowMoreThanTheyHave(t *testing.T) {
 		{[]string{"9999.9999.9999", "9999.9999.9999|a9999=5|b1!|c9999=999"}, "9999.9999.9999", []int{1}},
 		{[]string{"9999.0.9999|c9999=1", "9998.9999.0|a9998=1|b9999=999"}, "9999.9999.9999|b9999=999|c9999=1", []int{0, 1}},
 	} {
-		list := objsIn(c.list...)
-		if got, code := impl.MergeAll(list); objTold(got) != c.want || code != impl.OK {
-			t.Error("MergeAll", c.list, objTold(got), code, "not", c.want)
-		}
-		if got, code := impl.StaleOf(list); !slices.Equal(got, c.stale) || code != impl.OK {
-			t.Error("StaleOf", c.list, got, code, "not", c.stale)
-		}
+		m.ask(t)
 	}
 }
 
