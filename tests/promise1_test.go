@@ -216,9 +216,20 @@ func callsOfQuorums() []call {
 	return all
 }
 
+func callsOfClusters(t *testing.T) []call {
+	var all []call
+	for _, c := range clustersOfAllKinds(t) {
+		all = append(all, func() string { return told("ClusterOK", impl.ClusterOK(c)) })
+		for _, a := range actsOfAllKinds() {
+			all = append(all, func() string { got := a.ask(c); return told(a.name, got.Cluster, got.Dot, got.Obj, got.Code) })
+		}
+	}
+	return all
+}
+
 // Right and wrong arguments, each with each.
 func someCalls(t *testing.T) []call {
-	all := slices.Concat(callsOfCodes(), callsOfTexts(), callsOfLines(), callsOfRecords(), callsOfNodes(t), callsOfKeys(), callsOfQuorums())
+	all := slices.Concat(callsOfCodes(), callsOfTexts(), callsOfLines(), callsOfRecords(), callsOfNodes(t), callsOfKeys(), callsOfQuorums(), callsOfClusters(t))
 	for _, d := range append(rightDisks(), wrongDisks()...) {
 		all = append(all, callsOfDisk(d)...)
 	}
