@@ -90,6 +90,8 @@ func actsOfAllKinds() []act {
 		deliverAct(0), deliverAct(1), deliverAct(2), deliverAct(3), deliverAct(-1), dropAct(0), dropAct(3), dropAct(60), twiceAct(0), twiceAct(3), twiceAct(-1),
 		crashAct(0, 0, 0), crashAct(1, 1, 5), crashAct(2, 300, 0), crashAct(0, -1, 0), backAct(0), backAct(1), backAct(2), backAct(3),
 		tornAct(0, "a", 5, 0, 0), tornAct(0, "a", 5, 1, 0), tornAct(1, "a", 5, 0, 9), tornAct(2, "a", 5, 0, 0), tornAct(0, "e", 5, 0, 60), tornAct(0, "a", -1, 0, 0),
+		exchangeAct(0, 1), exchangeAct(2, 0), exchangeAct(2, 1), exchangeAct(1, 1), exchangeAct(-1, 0), handoffAct(0), handoffAct(1), handoffAct(2), handoffAct(3),
+		repairAct("a"), repairAct("b"), repairAct("e"), repairAct("zzzzzz"), repairAct("A"), repairAct(longKeys[0]), settleAct(), convergedAct(),
 	}
 }
 
@@ -123,7 +125,7 @@ func TestNoCallTouchesACluster(t *testing.T) {
 				t.Fatal(a.name, "answers memory that others have", i)
 			}
 			wipe(got)
-			if again := a.ask(lent); wide(again) != told || again.Code != got.Code || again.Dot != got.Dot {
+			if again := a.ask(lent); wide(again) != told || again.bare() != got.bare() {
 				t.Fatal(a.name, "answers what was answered ahead", i)
 			}
 			runtime.KeepAlive(lent)
@@ -145,7 +147,7 @@ func TestAClusterThatHasOneListTwice(t *testing.T) {
 	for _, a := range actsOfAllKinds() {
 		was := wide(c)
 		got, want := a.ask(c), a.ask(copyOfCluster(c))
-		if !alikeClusters(got.Cluster, want.Cluster) || !alike(got.Obj, want.Obj) || got.Code != want.Code {
+		if !alikeClusters(got.Cluster, want.Cluster) || !alike(got.Obj, want.Obj) || got.bare() != want.bare() {
 			t.Error(a.name, short(got), short(want))
 		}
 		if own := spansOf(got); !apart(own, spansOf(c)) || !allApart(own) || wide(c) != was {
@@ -159,7 +161,7 @@ func answersOfClusters(clusters []cluster) []string {
 	for _, c := range clusters {
 		for _, a := range actsOfAllKinds() {
 			got := a.ask(c)
-			all = append(all, told(a.name, got.Cluster, got.Dot, got.Obj, got.Code))
+			all = append(all, told(a.name, got.Cluster, got.Obj, got.bare()))
 		}
 	}
 	return all

@@ -267,7 +267,9 @@ func TestWrongClusters(t *testing.T) {
 	acts := []act{putAct(0, "a", vv{}, 5, false), putAct(-1, "A", vv{-1}, 1000, true), putAct(2, "a", vv{9999, 9999, 9999}, 5, false),
 		putAct(0, longKeys[0], vv{-1}, -1, true), getAct("a", 1), getAct("A", 3), getAct(longKeys[0], 3), deliverAct(0), deliverAct(-1), deliverAct(4999),
 		dropAct(0), dropAct(math.MaxInt), twiceAct(0), twiceAct(math.MinInt), crashAct(0, 0, 0), crashAct(3, -1, -1), crashAct(1, 0, impl.MaxText+1),
-		backAct(1), backAct(-1), tornAct(0, "a", 5, 0, 0), tornAct(3, "", -1, -1, -1), tornAct(3, longKeys[0], -1, -1, -1)}
+		backAct(1), backAct(-1), tornAct(0, "a", 5, 0, 0), tornAct(3, "", -1, -1, -1), tornAct(3, longKeys[0], -1, -1, -1),
+		exchangeAct(0, 1), exchangeAct(1, 2), exchangeAct(1, 1), exchangeAct(3, -1), handoffAct(0), handoffAct(2), handoffAct(math.MinInt), repairAct("a"),
+		repairAct("b"), repairAct(""), repairAct(longKeys[0]), settleAct(), convergedAct()}
 	for i, c := range wrongClusters(t) {
 		if impl.ClusterOK(c) {
 			t.Error("ClusterOK of wrong cluster", i, short(c))
@@ -279,7 +281,7 @@ func TestWrongClusters(t *testing.T) {
 				want = impl.ErrLong
 			}
 			got := a.ask(c)
-			if got.Code != want || got.Dot != (dot{}) || !isZero(got.Obj) || !isZeroCluster(got.Cluster) {
+			if got.bare() != (clusterAnswer{Code: want}).bare() || !isZero(got.Obj) || !isZeroCluster(got.Cluster) {
 				t.Fatal(a.name, "of wrong cluster", i, short(got), "not", want)
 			}
 		}

@@ -104,6 +104,8 @@ type wanted struct {
 	plain *plainCluster
 	dot   dot
 	obj   obj
+	count int
+	yes   bool
 	code  int
 }
 
@@ -228,19 +230,25 @@ func (p plainCluster) deliver(t *testing.T, i int) wanted {
 	if gone.code != impl.OK {
 		return gone
 	}
-	m, after := p.net[i], *gone.plain
+	after, code := gone.plain.taking(t, p.net[i])
+	return after.and(code)
+}
+
+// taking has what a message brought; nothing, if its node is down, or has no room for it.
+func (p plainCluster) taking(t *testing.T, m msg) (plainCluster, int) {
+	t.Helper()
 	if !p.up[m.To] {
-		return after.and(impl.ErrDown)
+		return p, impl.ErrDown
 	}
 	had := p.nodes[m.To].objs[m.Key]
 	both := joinedTold(had, m.Obj)
 	if alike(both, had) {
-		return gone
+		return p, impl.OK
 	}
 	if code := p.roomTold(m.To, m.Key, len(both.Sibs)); code != impl.OK {
-		return after.and(code)
+		return p, code
 	}
-	return after.noted(t, m.To, "join "+m.Key+" "+objTold(both)).and(impl.OK)
+	return p.noted(t, m.To, "join "+m.Key+" "+objTold(both)), impl.OK
 }
 
 func (p plainCluster) twice(i int) wanted {
@@ -299,15 +307,21 @@ type clusterAnswer struct {
 	Cluster cluster
 	Dot     dot
 	Obj     obj
+	Count   int
+	Yes     bool
 	Code    int
 }
+
+// bare leaves out what shares memory: the rest can be compared.
+func (a clusterAnswer) bare() [5]any { return [5]any{a.Dot, a.Obj.Seen, a.Count, a.Yes, a.Code} }
 
 // An act is one call on a cluster, and what must come of it. It tells its name with what is handed in.
 type act struct {
 	name string
 	ask  func(c cluster) clusterAnswer
 	want func(t *testing.T, p plainCluster) wanted
-	long bool // of a key that is too long
+	long bool                    // of a key that is too long
+	knew func(p plainCluster) vv // of a put that is done: its context
 }
 
 func named(name string, arguments ...any) string { return name + " " + short(arguments) }
@@ -321,6 +335,7 @@ func putAct(node int, key string, ctx vv, value int, dead bool) act {
 		},
 		want: func(t *testing.T, p plainCluster) wanted { return p.put(t, node, key, ctx, value, dead) },
 		long: len(key) > impl.MaxText,
+		knew: func(p plainCluster) vv { return ctx },
 	}
 }
 
@@ -345,6 +360,7 @@ func tornAct(node int, key string, value, keep, torn int) act {
 		},
 		want: func(t *testing.T, p plainCluster) wanted { return p.torn(t, node, key, value, keep, torn) },
 		long: len(key) > impl.MaxText,
+		knew: func(p plainCluster) vv { return p.nodes[node].objs[key].Seen },
 	}
 }
 
@@ -383,8 +399,9 @@ func (a act) asTold(t *testing.T, p plainCluster) plainCluster {
 	t.Helper()
 	c := p.cluster()
 	got, want := a.ask(c), a.want(t, p)
-	if got.Code != want.code || got.Dot != want.dot || !alike(got.Obj, want.obj) {
-		t.Fatal(a.name, short(c), got.Dot, short(got.Obj), got.Code, "not", want.dot, short(want.obj), want.code)
+	asked := clusterAnswer{Dot: want.dot, Obj: want.obj, Count: want.count, Yes: want.yes, Code: want.code}
+	if got.bare() != asked.bare() || !alike(got.Obj, want.obj) {
+		t.Fatal(a.name, short(c), short(got.bare()), short(got.Obj), "not", short(asked.bare()), short(want.obj))
 	}
 	if !alikeClusters(c, p.cluster()) {
 		t.Fatal(a.name, "changes its argument", short(c), short(p.cluster()))

@@ -221,7 +221,7 @@ func callsOfClusters(t *testing.T) []call {
 	for _, c := range clustersOfAllKinds(t) {
 		all = append(all, func() string { return told("ClusterOK", impl.ClusterOK(c)) })
 		for _, a := range actsOfAllKinds() {
-			all = append(all, func() string { got := a.ask(c); return told(a.name, got.Cluster, got.Dot, got.Obj, got.Code) })
+			all = append(all, func() string { got := a.ask(c); return told(a.name, got.Cluster, got.Obj, got.bare()) })
 		}
 	}
 	return all
