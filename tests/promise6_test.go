@@ -153,19 +153,24 @@ func (r *nodeRun) join(t *testing.T) {
 	}
 }
 
-// A cut comes into a node by its records alone.
 func (r *nodeRun) cut(t *testing.T) {
 	t.Helper()
 	p := r.plain(t)
-	if p.count == p.cut || len(r.list) == impl.MaxRecords {
+	if p.count == p.cut {
 		return
 	}
-	list := append(slices.Clone(r.list), "cut "+strconv.Itoa(p.cut+1+r.draw(p.count-p.cut)))
-	x, code := impl.ReplayNode(r.Id, list)
-	if code != impl.OK {
-		t.Fatal("ReplayNode", short(list), code)
+	n := p.cut + 1 + r.draw(p.count-p.cut)
+	x, code := impl.CutFeed(r.node, n)
+	if len(r.list) == impl.MaxRecords {
+		if !alikeNodes(x, r.node) || code != impl.ErrFull {
+			t.Fatal("CutFeed without room", n, code)
+		}
+		return
 	}
-	r.node, r.list, r.sure = x, list, len(list)
+	if code != impl.OK {
+		t.Fatal("CutFeed", n, code)
+	}
+	r.node, r.list = x, append(r.list, "cut "+strconv.Itoa(n))
 }
 
 func (r *nodeRun) sync(t *testing.T) {
@@ -231,16 +236,20 @@ func TestARunUpToTheLastLine(t *testing.T) {
 			if r.draw(30) == 0 {
 				r.sync(t)
 			}
-			if r.draw(2) == 0 {
-				r.put(t)
-			} else {
+			switch r.draw(8) {
+			case 0:
+				r.cut(t)
+			case 1, 2, 3:
 				r.join(t)
+			default:
+				r.put(t)
 			}
 		}
 		r.check(t)
 		for range 20 {
 			r.put(t)
 			r.join(t)
+			r.cut(t)
 		}
 		r.check(t)
 		for r.sure < len(r.list) {
