@@ -93,6 +93,45 @@ func feedCalls() []feedCall {
 
 func lentCopy[T any](what T) T { return roomy(reflect.ValueOf(what)).Interface().(T) }
 
+// A lending is what calls are given, with room behind the end of each of its lists, and what it was.
+type lending[G any] struct {
+	given G
+	was   string
+	spans []span
+}
+
+func lendingOf[G any](given G) lending[G] {
+	lent := lentCopy(given)
+	return lending[G]{lent, wide(lent), spansOf(lent)}
+}
+
+// touchesNothing asks one call three times: it leaves what it is given as it was, and its answers have memory of their own.
+func touchesNothing[G, A any](t *testing.T, l lending[G], ask func(given G) A, call ...any) {
+	t.Helper()
+	got := ask(l.given)
+	first := told(wide(got), got)
+	if wide(l.given) != l.was {
+		t.Fatal("changes an argument:", call)
+	}
+	own := spansOf(got)
+	if !apart(own, l.spans) || !allApart(own) {
+		t.Fatal("answers memory that others have:", call)
+	}
+	second := ask(l.given)
+	if !apart(own, spansOf(second)) {
+		t.Fatal("answers memory that was answered ahead:", call)
+	}
+	wipe(got)
+	if told(wide(second), second) != first || wide(l.given) != l.was {
+		t.Fatal("shares what is written into an answer:", call)
+	}
+	if again := ask(l.given); told(wide(again), again) != first {
+		t.Fatal("answers what was answered ahead:", call)
+	}
+	runtime.KeepAlive(got)
+	runtime.KeepAlive(l)
+}
+
 // Pairs of right and wrong groups and nodes.
 func pairsForMemory(t *testing.T) []feedAnswer {
 	t.Helper()
@@ -108,31 +147,10 @@ func pairsForMemory(t *testing.T) []feedAnswer {
 
 func TestNoCallTouchesAGroupOrItsNode(t *testing.T) {
 	for i, pair := range pairsForMemory(t) {
-		lent := lentCopy(pair)
-		was, spans := wide(lent), spansOf(lent)
+		l := lendingOf(pair)
 		for _, c := range feedCalls() {
-			got := c.ask(lent.Group, lent.Node)
-			first := told(wide(got), got)
-			if wide(lent) != was {
-				t.Fatal(c.name, "changes an argument", i)
-			}
-			own := spansOf(got)
-			if !apart(own, spans) || !allApart(own) {
-				t.Fatal(c.name, "answers memory that others have", i)
-			}
-			second := c.ask(lent.Group, lent.Node)
-			if !apart(own, spansOf(second)) {
-				t.Fatal(c.name, "answers memory that was answered ahead", i)
-			}
-			wipe(got)
-			if told(wide(second), second) != first || wide(lent) != was {
-				t.Fatal(c.name, "shares what is written into an answer", i)
-			}
-			if again := c.ask(lent.Group, lent.Node); told(wide(again), again) != first {
-				t.Fatal(c.name, "answers what was answered ahead", i)
-			}
+			touchesNothing(t, l, func(pair feedAnswer) feedAnswer { return c.ask(pair.Group, pair.Node) }, c.name, i)
 		}
-		runtime.KeepAlive(lent)
 	}
 }
 

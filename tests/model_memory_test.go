@@ -2,7 +2,6 @@ package tests
 
 import (
 	"math"
-	"runtime"
 	"slices"
 	"testing"
 
@@ -80,32 +79,10 @@ func listsForMemory() [][]deed {
 
 func TestNoCallTouchesEvents(t *testing.T) {
 	for i, given := range listsForMemory() {
-		lent := lentCopy(given)
-		was, spans := wide(lent), spansOf(lent)
+		l := lendingOf(given)
 		for _, c := range modelCalls() {
-			got := c.ask(lent)
-			first := told(wide(got), got)
-			if wide(lent) != was {
-				t.Fatal(c.name, "changes an argument", i)
-			}
-			own := spansOf(got)
-			if !apart(own, spans) || !allApart(own) {
-				t.Fatal(c.name, "answers memory that others have", i)
-			}
-			second := c.ask(lent)
-			if !apart(own, spansOf(second)) {
-				t.Fatal(c.name, "answers memory that was answered ahead", i)
-			}
-			wipe(got)
-			if told(wide(second), second) != first || wide(lent) != was {
-				t.Fatal(c.name, "shares what is written into an answer", i)
-			}
-			if again := c.ask(lent); told(wide(again), again) != first {
-				t.Fatal(c.name, "answers what was answered ahead", i)
-			}
-			runtime.KeepAlive(got)
+			touchesNothing(t, l, c.ask, c.name, i)
 		}
-		runtime.KeepAlive(lent)
 	}
 }
 
