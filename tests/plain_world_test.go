@@ -56,20 +56,25 @@ func stepIn(text string) step {
 	}
 	s := step{Kind: told.kind, Blind: words[len(words)-1] == "blind"}
 	for i, field := range strings.Fields(told.fields) {
-		word := words[i+1]
-		n, _ := strconv.Atoi(word)
-		switch field {
-		case "node":
-			s.Node = n
-		case "key":
-			s.Key = strings.TrimPrefix(word, "-")
-		case "value":
-			s.Value = n
-		case "keep":
-			s.Keep = n
-		case "n":
-			s.N = n
-		}
+		s = withField(s, field, words[i+1])
+	}
+	s.Key = strings.TrimPrefix(s.Key, "-")
+	return s
+}
+
+func withField(s step, field, word string) step {
+	n, _ := strconv.Atoi(word)
+	switch field {
+	case "node":
+		s.Node = n
+	case "key":
+		s.Key = word
+	case "value":
+		s.Value = n
+	case "keep":
+		s.Keep = n
+	case "n":
+		s.N = n
 	}
 	return s
 }
