@@ -43,7 +43,7 @@ func (w plainWorld) judged(t *testing.T, want verdict, what ...any) {
 }
 
 // somethingDone has events of two keys at all of their owners, or on their way there: nodes 0 and 1 own key a, 1 and 2 own
-// key b. Keys k and w belong to 0 and 1, too, e to 2 and 0.
+// key b. Key k belongs to 0 and 1, too, w to 1 and 2, and e to 2 and 0.
 func somethingDone(t *testing.T) plainWorld {
 	t.Helper()
 	return newPlainWorld(t).doing(t, "put 0 a 5", "put 1 a 6 blind", "put 1 b 7", "crash 2", "put 1 b 8", "poll 0 9", "poll 1 1")

@@ -175,11 +175,19 @@ var (
 	lastOfBlind = regexp.MustCompile(` blind *\z`)
 )
 
-// readActTold takes the last word of a blind act off, then asks each pattern whether it is that of the text.
 func readActTold(text string) (step, int) {
 	if len(text) > 65536 {
 		return step{}, impl.ErrLong
 	}
+	s, ok := actTold(text)
+	if !ok {
+		return step{}, impl.ErrForm
+	}
+	return s, impl.OK
+}
+
+// actTold takes the last word of a blind act off, then asks each pattern whether it is that of the text, however long it is.
+func actTold(text string) (step, bool) {
 	blind := blindForm.MatchString(text)
 	if blind {
 		text = lastOfBlind.ReplaceAllString(text, "")
@@ -193,9 +201,9 @@ func readActTold(text string) (step, int) {
 		for i, field := range strings.Fields(stepWords[word].fields) {
 			s = withField(s, field, m[i+1])
 		}
-		return s, impl.OK
+		return s, true
 	}
-	return step{}, impl.ErrForm
+	return step{}, false
 }
 
 func readActAsTold(t *testing.T, text string) (step, int) {

@@ -229,7 +229,7 @@ func callsOfClusters(t *testing.T) []call {
 
 // Right and wrong arguments, each with each.
 func someCalls(t *testing.T) []call {
-	all := slices.Concat(callsOfCodes(), callsOfTexts(), callsOfLines(), callsOfRecords(), callsOfNodes(t), callsOfKeys(), callsOfQuorums(), callsOfClusters(t), callsOfFeeds(t), callsOfViews(t), callsOfEvents(), callsOfWorlds(t), callsOfAudits(t))
+	all := slices.Concat(callsOfCodes(), callsOfTexts(), callsOfLines(), callsOfRecords(), callsOfNodes(t), callsOfKeys(), callsOfQuorums(), callsOfClusters(t), callsOfFeeds(t), callsOfViews(t), callsOfEvents(), callsOfWorlds(t), callsOfAudits(t), callsOfConsoles(t))
 	for _, d := range append(rightDisks(), wrongDisks()...) {
 		all = append(all, callsOfDisk(d)...)
 	}
